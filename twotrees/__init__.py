@@ -1,0 +1,1 @@
+"""Least ambiguous texts of a grammar."""
