@@ -49,6 +49,22 @@ def ways(a, text):
     return [4, a, len(text)] + octets_of(text)
 
 
+def core(a, text):
+    return [5, a, len(text)] + octets_of(text)
+
+
+def tally(a, most):
+    return [6, a, most]
+
+
+def widest(a, most):
+    return [7, a, most]
+
+
+def odds(a, most):
+    return [8, a, most]
+
+
 def sure():
     return [9]
 

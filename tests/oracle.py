@@ -62,19 +62,26 @@ class Forest:
         return found
 
     def alternatives(self, node):
+        """All pairs of a rule and kids, in their order."""
         head, i, j = node
-        return [kids for rule_head, symbols in self.rules if rule_head == head
-                for kids in self.partings(symbols, i, j)]
+        found = [(rule, kids) for rule, (rule_head, symbols) in enumerate(self.rules) if rule_head == head
+                 for kids in self.partings(symbols, i, j)]
+        return sorted(found, key=lambda pair: (pair[0], [kid[2] for kid in pair[1]]))
 
-    def stands_beneath_itself(self, node):
-        """Whether some tree of the node has a node beneath which the same one stands."""
-        below = {}
+    def below(self, node):
+        """The nodes of all trees of a node, each with the kids of its alternatives."""
+        found = {}
         waiting = [node]
         while waiting:
             one = waiting.pop()
-            if one not in below:
-                below[one] = {kid for kids in self.alternatives(one) for kid in kids}
-                waiting += below[one]
+            if one not in found:
+                found[one] = {kid for rule, kids in self.alternatives(one) for kid in kids}
+                waiting += found[one]
+        return found
+
+    def stands_beneath_itself(self, node):
+        """Whether some tree of the node has a node beneath which the same one stands."""
+        below = self.below(node)
         for one in below:
             seen = set()
             waiting = list(below[one])
@@ -90,13 +97,23 @@ class Forest:
     def trees(self, node):
         if node not in self.counts:
             total = 0
-            for kids in self.alternatives(node):
+            for rule, kids in self.alternatives(node):
                 product = 1
                 for kid in kids:
                     product *= self.trees(kid)
                 total += product
             self.counts[node] = total
         return self.counts[node]
+
+    def listed_trees(self, node):
+        """All trees of a node with finitely many, each told by its nodes (rule, from, to)."""
+        found = []
+        for rule, kids in self.alternatives(node):
+            rows = [[(rule, node[1], node[2])]]
+            for kid in kids:
+                rows = [row + tree for row in rows for tree in self.listed_trees(kid)]
+            found += rows
+        return found
 
 
 def ways_of(nonterminals, rules, a, text):
@@ -128,6 +145,48 @@ def search_of(nonterminals, rules, a, most, tries, behind=None):
         if ways_of(nonterminals, rules, a, text) not in ([0, 0], [0, 1]):
             return [1, looked + 1, len(text)] + text
     return [0, len(texts)]
+
+
+def core_of(nonterminals, rules, a, text):
+    """What core answers."""
+    forest = Forest(nonterminals, rules, text)
+    root = (a, 0, len(text))
+    if root not in forest.covered:
+        return [-8]
+    found = {node: forest.alternatives(node) for node in forest.below(root)}
+    if len(found) > 256 or sum(len(alternatives) for alternatives in found.values()) > 512:
+        return [-9]
+    parted = [(j - i, i, head) for head, i, j in found if len(found[head, i, j]) >= 2]
+    if not parted:
+        return [0]
+    size, i, head = min(parted)
+    first, second = found[head, i, i + size][:2]
+    told = [1, 2 if first[0] == second[0] else 1, head, i, i + size]
+    for rule, kids in (first, second):
+        told += [rule, len(kids)] + [number for kid in kids for number in kid]
+    return told
+
+
+def surveys_of(nonterminals, rules, a, most):
+    """What tally, widest and odds answer."""
+    found = signs_of(rules)
+    if sum(len(found) ** size for size in range(most + 1)) > 300:
+        return [[-10]] * 3
+    texts = list(texts_in_order(found, most))
+    ways = [ways_of(nonterminals, rules, a, text) for text in texts]
+    several = [text for text, number in zip(texts, ways) if number not in ([0, 0], [0, 1])]
+    tally = [0, len(texts), len(texts) - ways.count([0, 0]), len(several), ways.count([1])]
+    # Compared as lists, [1] stands above every [0, number].
+    most_ways = max(ways)
+    text = texts[ways.index(most_ways)]
+    pairs = []
+    for one in several:
+        told = core_of(nonterminals, rules, a, one)
+        if told != [-9]:
+            pair = [told[5], told[7 + 3 * told[6]]]
+            pairs += [] if pair in pairs else [pair]
+    odds = [0, len(pairs)] + [rule for pair in pairs for rule in pair]
+    return [tally, [0] + most_ways + [len(text)] + text, odds]
 
 
 def grown(step):

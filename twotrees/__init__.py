@@ -1,1 +1,1 @@
-"""Least ambiguous texts of a grammar."""
+"""Least ambiguous texts of a grammar, and where two trees part."""

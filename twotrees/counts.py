@@ -127,6 +127,23 @@ class Counts:
             self.count_pieces(text)
         return self.head_ways[text][head]
 
+    def tail_covers(self, tail, piece):
+        """Whether a tail covers a piece that is counted."""
+        return self.tail_ways[piece][tail] > 0
+
+    def symbol_covers(self, symbol, piece):
+        """Whether a symbol covers a piece that is counted."""
+        if symbol[0] == NONTERMINAL:
+            return self.head_ways[piece][symbol[1]] > 0
+        return len(piece) == 1 and symbol[1] <= piece[0] <= symbol[2]
+
+    def sizes_of_first(self, tail, piece):
+        """How many bytes of a counted piece a tail's first symbol may cover while the rest covers the others."""
+        symbol = self.tails.firsts[tail]
+        rest = self.tails.rests[tail]
+        sizes = [size for size in range(len(piece) + 1) if self.symbol_covers(symbol, piece[:size])]
+        return [size for size in sizes if self.tail_covers(rest, piece[size:])]
+
     def count_pieces(self, text):
         """Counts over all pieces of the text, the shorter ones first."""
         if len(self.head_ways) > MOST_PIECES:

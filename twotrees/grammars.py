@@ -2,21 +2,25 @@
 
 from twotrees.classes import Grammar, NO_CLASS
 from twotrees.counts import Counts, endless
-from twotrees.rows import LAST_BYTE, read_row
+from twotrees.forests import Forests, core_among
+from twotrees.refusals import next_refusal, search_refusal, survey_refusal, text_refusal
+from twotrees.rows import read_row
 from twotrees.states import is_sure
-from twotrees.texts import FOUND, TRIES_USED, look_through, text_behind
-
-MOST_BYTES = 24
-LONGEST_SEARCHED = 8
-MOST_TRIES = 300
+from twotrees.surveys import odds_of, tally_of, widest_of
+from twotrees.texts import FOUND, TRIES_USED, look_through, text_behind, texts_up_to
 
 LOAD = 0
 SIGNS = 1
 SEARCH = 2
 NEXT = 3
 WAYS = 4
+CORE = 5
+TALLY = 6
+WIDEST = 7
+ODDS = 8
 # For each call, by its number (9 is sure), how many whole numbers it has, and whether a row stands behind them.
-FORMS = {0: (0, True), 1: (0, False), 2: (3, False), 3: (3, True), 4: (1, True), 9: (0, False)}
+FORMS = {0: (0, True), 1: (0, False), 2: (3, False), 3: (3, True), 4: (1, True), 5: (1, True), 6: (2, False),
+         7: (2, False), 8: (2, False), 9: (0, False)}
 
 
 class Holder:
@@ -29,44 +33,23 @@ class Holder:
         """Holds this grammar from now on."""
         self.grammar = grammar
         self.counts = Counts(grammar)
+        self.forests = Forests(grammar, self.counts)
 
+    def text_of(self, octets):
+        """The text with these bytes, as a tuple of classes."""
+        return tuple([self.grammar.class_of[octet] for octet in octets])
 
-def bytes_refusal(octets):
-    """The refusal that is due for a list of bytes, or 0."""
-    if any([octet < 0 or octet > LAST_BYTE for octet in octets]):
-        return -1
-    return -3 if len(octets) > MOST_BYTES else 0
+    def octets_of(self, text):
+        """The bytes of a text of signs that is given as a tuple of classes."""
+        return [self.grammar.signs[number] for number in text]
 
+    def ways_over(self, head, text):
+        """In how many ways a nonterminal covers a text; one with a byte of no class isn't covered."""
+        return 0 if NO_CLASS in text else self.counts.ways(head, text)
 
-def head_refusal(grammar, head):
-    """The refusal that is due for a nonterminal, or 0."""
-    return 0 if 0 <= head < grammar.nonterminals else -4
-
-
-def search_refusal(grammar, numbers):
-    """The refusal that is due for the whole numbers of a search, or 0."""
-    refusal = head_refusal(grammar, numbers[0])
-    if refusal == 0 and not 0 <= numbers[1] <= LONGEST_SEARCHED:
-        refusal = -5
-    if refusal == 0 and not 0 <= numbers[2] <= MOST_TRIES:
-        refusal = -6
-    return refusal
-
-
-def next_refusal(grammar, numbers, octets):
-    """The refusal that is due for a search behind a text, or 0."""
-    refusal = bytes_refusal(octets)
-    if refusal == 0:
-        refusal = search_refusal(grammar, numbers)
-    if refusal == 0 and any([octet not in grammar.signs for octet in octets]):
-        refusal = -7
-    return refusal
-
-
-def ways_refusal(grammar, head, octets):
-    """The refusal that is due for counting the ways of a text, or 0."""
-    refusal = bytes_refusal(octets)
-    return head_refusal(grammar, head) if refusal == 0 else refusal
+    def texts_told(self, most):
+        """All texts of signs of at most so many bytes, in their order."""
+        return texts_up_to(len(self.grammar.signs), most)
 
 
 def answer_load(holder, row):
@@ -86,13 +69,12 @@ def answer_signs(holder):
 
 
 def search_from(holder, numbers, text):
-    """What a search from this text on finds; None if there is no text to look at."""
-    signs = holder.grammar.signs
-    ended = look_through(holder.counts, len(signs), text, numbers[0], numbers[1], numbers[2])
+    """What a search from this text on finds (None: there is no text to look at)."""
+    ended = look_through(holder.counts, len(holder.grammar.signs), text, numbers[0], numbers[1], numbers[2])
     if ended[0] == TRIES_USED:
         return [TRIES_USED]
     if ended[0] == FOUND:
-        return [FOUND, ended[1], len(ended[2])] + [signs[number] for number in ended[2]]
+        return [FOUND, ended[1], len(ended[2])] + holder.octets_of(ended[2])
     return [ended[0], ended[1]]
 
 
@@ -104,25 +86,83 @@ def answer_search(holder, numbers):
 
 def answer_next(holder, numbers, octets):
     """The first such text behind a given one."""
-    grammar = holder.grammar
-    refusal = next_refusal(grammar, numbers, octets)
+    refusal = next_refusal(holder.grammar, numbers, octets)
     if refusal < 0:
         return [refusal]
-    text = tuple([grammar.class_of[octet] for octet in octets])
-    return search_from(holder, numbers, text_behind(text, len(grammar.signs), numbers[1]))
+    return search_from(holder, numbers, text_behind(holder.text_of(octets), len(holder.grammar.signs), numbers[1]))
+
+
+def told_ways(ways):
+    """A number of ways as it is answered: 0 and the number, or 1 for infinitely many."""
+    return [1] if ways == endless() else [0, ways]
 
 
 def answer_ways(holder, head, octets):
     """In how many ways a nonterminal covers a text."""
-    grammar = holder.grammar
-    refusal = ways_refusal(grammar, head, octets)
+    refusal = text_refusal(holder.grammar, head, octets)
     if refusal < 0:
         return [refusal]
-    text = tuple([grammar.class_of[octet] for octet in octets])
-    if NO_CLASS in text:
-        return [0, 0]
-    ways = holder.counts.ways(head, text)
-    return [1] if ways == endless() else [0, ways]
+    return told_ways(holder.ways_over(head, holder.text_of(octets)))
+
+
+def told_alternative(alternative):
+    """An alternative as it is answered: its rule, how many kids, and these."""
+    told = [alternative[0], len(alternative[1])]
+    for kid in alternative[1]:
+        told.extend(kid)
+    return told
+
+
+def told_core(core):
+    """A core as it is answered: its kind, its node and its two alternatives."""
+    first = core[1]
+    second = core[2]
+    kind = 2 if first[0] == second[0] else 1
+    return [kind] + list(core[0]) + told_alternative(first) + told_alternative(second)
+
+
+def answer_core(holder, head, octets):
+    """Where two trees of a nonterminal over a text part."""
+    refusal = text_refusal(holder.grammar, head, octets)
+    if refusal < 0:
+        return [refusal]
+    text = holder.text_of(octets)
+    if holder.ways_over(head, text) == 0:
+        return [-8]
+    nodes = holder.forests.nodes_over(head, text)
+    if nodes is None:
+        return [-9]
+    core = core_among(nodes)
+    return [0] if core is None else [1] + told_core(core)
+
+
+def answer_tally(holder, numbers):
+    """How many texts of signs are covered, and how."""
+    refusal = survey_refusal(holder.grammar, numbers)
+    if refusal < 0:
+        return [refusal]
+    return [0] + tally_of(holder.counts, numbers[0], holder.texts_told(numbers[1]))
+
+
+def answer_widest(holder, numbers):
+    """The first text of signs that is covered in the most ways."""
+    refusal = survey_refusal(holder.grammar, numbers)
+    if refusal < 0:
+        return [refusal]
+    found = widest_of(holder.counts, numbers[0], holder.texts_told(numbers[1]))
+    return [0] + told_ways(found[0]) + [len(found[1])] + holder.octets_of(found[1])
+
+
+def answer_odds(holder, numbers):
+    """The pairs of rules that are at odds."""
+    refusal = survey_refusal(holder.grammar, numbers)
+    if refusal < 0:
+        return [refusal]
+    pairs = odds_of(holder.forests, numbers[0], holder.texts_told(numbers[1]))
+    told = [0, len(pairs)]
+    for pair in pairs:
+        told.extend(pair)
+    return told
 
 
 def answer_sure(holder):
@@ -145,6 +185,14 @@ def answer_call(holder, call, numbers, row):
         return answer_next(holder, numbers, row)
     if call == WAYS:
         return answer_ways(holder, numbers[0], row)
+    if call == CORE:
+        return answer_core(holder, numbers[0], row)
+    if call == TALLY:
+        return answer_tally(holder, numbers)
+    if call == WIDEST:
+        return answer_widest(holder, numbers)
+    if call == ODDS:
+        return answer_odds(holder, numbers)
     return answer_sure(holder)
 
 

@@ -10,9 +10,11 @@ class Tails:
         self.firsts = [None]
         self.rests = [0]
         self.wholes = [[] for head in range(grammar.nonterminals)]
+        self.by_rule = []
         numbers = {}
         for head, symbols in grammar.rules:
-            self.wholes[head].append(self.number_of(symbols, numbers))
+            self.by_rule.append(self.number_of(symbols, numbers))
+            self.wholes[head].append(self.by_rule[-1])
         self.by_head = [[] for head in range(grammar.nonterminals)]
         self.by_class = [[] for sign in grammar.signs]
         self.sort_by_first()
@@ -28,6 +30,11 @@ class Tails:
                 self.rests.append(tail)
             tail = numbers[key]
         return tail
+
+    def head_first(self, tail):
+        """The nonterminal that a tail with symbols begins with; None if that is a range."""
+        symbol = self.firsts[tail]
+        return symbol[1] if symbol[0] == NONTERMINAL else None
 
     def sort_by_first(self):
         """Puts each tail, with its rest, to the nonterminal or the classes that it begins with."""

@@ -19,6 +19,24 @@ def text_behind(text, signs, most):
     return tuple(numbers) if signs > 0 and len(numbers) <= most else None
 
 
+def number_of_texts(signs, most):
+    """How many texts of signs of at most most bytes there are."""
+    of_size = 1
+    total = 1
+    for size in range(most):
+        of_size *= signs
+        total += of_size
+    return total
+
+
+def texts_up_to(signs, most):
+    """All texts of at most most bytes in their order, as tuples of classes."""
+    texts = [()]
+    while texts[-1] is not None:
+        texts.append(text_behind(texts[-1], signs, most))
+    return texts[:-1]
+
+
 def look_through(counts, signs, text, head, most, tries):
     """Looks at texts from this one on (None: there is none): how it ended, how many were looked at, and the last."""
     looked = 0
